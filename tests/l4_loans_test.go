@@ -267,15 +267,21 @@ func (d *dice) dense(all []impl.Stmt, most, nested int) []impl.Stmt {
 	return list
 }
 
+// mixedTypes are types of which each is there, the first four in the same order.
+func (d *dice) mixedTypes() []int {
+	types := []int{impl.TypeInt, impl.TypeBox, impl.TypeMut, impl.TypeRef}
+	for range d.upTo(3) {
+		types = append(types, impl.TypeBox+d.upTo(3))
+	}
+	return types
+}
+
 // borrowing returns valid programs with variables of all types, and with many loans.
 func borrowing(count int) []impl.Program {
 	d := &dice{state: 11}
 	var programs []impl.Program
 	for len(programs) < count {
-		types := []int{impl.TypeInt, impl.TypeBox, impl.TypeMut, impl.TypeRef}
-		for range d.upTo(3) {
-			types = append(types, impl.TypeBox+d.upTo(3))
-		}
+		types := d.mixedTypes()
 		if p := (impl.Program{Types: types, Body: d.dense(fitting(types), 18, 4)}); impl.ProgramValid(p) {
 			programs = append(programs, p)
 		}
