@@ -337,8 +337,8 @@ func (d *dice) inserted(list []impl.Stmt, s impl.Stmt) []impl.Stmt {
 	return list
 }
 
-// grown returns accepted programs with many statements, each of which comes in if the program is accepted with it.
-func grown(count int) []impl.Program {
+// grown returns programs with many statements that are accepted, each of which comes in if the program is accepted with it.
+func grown(count int, accepts func(p impl.Program) bool) []impl.Program {
 	d := &dice{state: 41}
 	var programs []impl.Program
 	for len(programs) < count {
@@ -347,7 +347,7 @@ func grown(count int) []impl.Program {
 		p := impl.Program{Types: types}
 		for range 100 {
 			q := impl.Program{Types: types, Body: d.inserted(p.Body, all[d.upTo(len(all))])}
-			if impl.Accepts(q) {
+			if accepts(q) {
 				p = q
 			}
 		}
@@ -358,7 +358,7 @@ func grown(count int) []impl.Program {
 
 // acceptedPrograms are accepted by the checker, many of them with choices, loans, and values that are taken.
 func acceptedPrograms(t *testing.T) []impl.Program {
-	programs := grown(150)
+	programs := grown(150, impl.Accepts)
 	for _, p := range append(exploredPrograms(t), borrowing(400)...) {
 		repaired, _ := impl.RepairProgram(p)
 		programs = append(programs, repaired)
