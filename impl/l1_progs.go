@@ -102,10 +102,10 @@ func CountStmts(p Program) int {
 func VarsOf(s Stmt) []int {
 	var has [MaxVars]bool
 	eachPart(s, func(part *Stmt) {
-		if part.Op < OpIf && isVar(part.X) {
+		if hasX(part.Op) && isVar(part.X) {
 			has[part.X] = true
 		}
-		if part.Op >= OpMove && part.Op <= OpStore && isVar(part.Y) {
+		if hasY(part.Op) && isVar(part.Y) {
 			has[part.Y] = true
 		}
 	})
@@ -120,6 +120,12 @@ func VarsOf(s Stmt) []int {
 
 // IsReference reports whether a type is that of references.
 func IsReference(t int) bool { return varType(t).isReference() }
+
+// hasX reports whether X of a statement stands for a variable. What is no kind
+// of statement counts, too, if it is less than the kinds with lists.
+func hasX(op int) bool { return op < OpIf }
+
+func hasY(op int) bool { return op >= OpMove && op <= OpStore }
 
 func isVar(v int) bool { return v >= 0 && v < MaxVars }
 
